@@ -31,7 +31,8 @@ const (
 	hasSum
 )
 
-// parts answers what a message of the kind has: nothing, if there is no such kind.
+// parts answers what a message of the kind has: the head alone, which all
+// messages have, if there is no such kind.
 func parts(kind int) int {
 	switch kind {
 	case api.MsPre, api.MsVote:
@@ -53,7 +54,7 @@ func parts(kind int) int {
 	case api.MsGetReply:
 		return hasHead | hasRound | hasSum | hasData | hasOK
 	}
-	return 0
+	return hasHead
 }
 
 // field is one field of a message, which those have that have its part.

@@ -423,11 +423,12 @@ func TestDecodeMore(t *testing.T) {
 func wrongBytes() map[string]api.Errno {
 	nine := strings.Repeat("\xff", 9)
 	l := map[string]api.Errno{
+		// A kind that is none: told behind the reader's errors of From, To, Term.
+		"\x00\x01\x02\x03":             api.ErrForm,
+		"\x00\x01\x02\x03\x01":         api.ErrForm,
+		"\x00\x01\x01\x03":             api.ErrForm,
+		"\x00\x01\x02\x03" + overBytes: api.ErrForm,
 		// The kind, ahead of all that stands behind it.
-		"\x00":                             api.ErrForm,
-		"\x00\x07":                         api.ErrForm,
-		"\x00\x01\x02\x03":                 api.ErrForm,
-		"\x00\x01\x02\x03\x01":             api.ErrForm,
 		"\x0c":                             api.ErrLong,
 		"\x0c\x01\x02\x03":                 api.ErrLong,
 		"\x81\x00\x01\x02":                 api.ErrLong,
@@ -478,8 +479,15 @@ func wrongBytes() map[string]api.Errno {
 		"\x0a\x01\x02\x03\x00\x21":                        api.ErrLong,
 		"\x08\x01\x02\x03\x00\x00\x1f" + string(some(31)): api.ErrForm,
 	}
-	for kind := byte(api.MsPre); kind <= api.MsGetReply; kind++ {
+	// All bytes have From, To and Term, those of a Kind 0 too.
+	for kind := byte(0); kind <= api.MsGetReply; kind++ {
 		head := string([]byte{kind})
+		l[head] = api.ErrShort
+		l[head+"\x01"] = api.ErrShort
+		l[head+"\x01\x00"] = api.ErrShort
+		l[head+"\x01\x00\x81"] = api.ErrShort
+		l[head+"\x07\x00\x03"] = api.ErrLong
+		l[head+"\x01\x07\x03"] = api.ErrLong
 		l[head+"\x07"] = api.ErrLong
 		l[head+"\x81\x00"] = api.ErrLong
 		l[head+"\x80\x01"] = api.ErrForm
