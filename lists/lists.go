@@ -1,0 +1,63 @@
+// Package lists writes, reads, copies and looks at lists, whatever they are of:
+// the layers that keep lists lean on it.
+package lists
+
+import (
+	"slices"
+
+	"bailey/api"
+	"bailey/nums"
+	"bailey/pack"
+)
+
+// Put answers b, how many there are, and the bytes of each.
+func Put[T any](b []byte, l []T, code func(T) []byte) []byte {
+	out := pack.Num(b, len(l))
+	for _, x := range l {
+		// Laid onto out itself, each would copy all that stands there.
+		out = append(out, code(x)...)
+	}
+	return out
+}
+
+// Read reads at most most of them, each by read; none behind an error.
+func Read[T any](r *pack.Reader, most int, read func(*pack.Reader) T) []T {
+	var l []T
+	for range r.Num(most) {
+		l = append(l, read(r))
+	}
+	if r.Err() != api.OK {
+		return nil
+	}
+	return l
+}
+
+// Copy answers l in new memory, each of it made by each, for what a copy of
+// the list alone would share.
+func Copy[T any](l []T, each func(T) T) []T {
+	out := slices.Clone(l)
+	for i, x := range out {
+		out[i] = each(x)
+	}
+	return out
+}
+
+// Rise tells whether each of l stands above the one ahead of it.
+func Rise[T any](l []T, order func(a, b T) int) bool {
+	for i := 1; i < len(l); i++ {
+		if order(l[i-1], l[i]) >= 0 {
+			return false
+		}
+	}
+	return true
+}
+
+// Within tells whether each of the numbers is 0 to most.
+func Within(most int, l ...int) bool {
+	for _, n := range l {
+		if !nums.Within(n, 0, most) {
+			return false
+		}
+	}
+	return true
+}
