@@ -20,6 +20,14 @@ func Put[T any](b []byte, l []T, code func(T) []byte) []byte {
 	return out
 }
 
+// Numbers answers b and the bytes of each number, as many as there are.
+func Numbers(b []byte, l ...int) []byte {
+	for _, n := range l {
+		b = pack.Num(b, n)
+	}
+	return b
+}
+
 // Read reads at most most of them, each by read; none behind an error.
 func Read[T any](r *pack.Reader, most int, read func(*pack.Reader) T) []T {
 	var l []T

@@ -33,6 +33,22 @@ func TestPut(t *testing.T) {
 	}
 }
 
+func TestNumbers(t *testing.T) {
+	for want, l := range map[string][]int{
+		"": nil, "\x00": {0}, "\x05\x00\x82\x2c\x05": {5, 0, 300, 5}, "\x00\x01": {-1, 1},
+	} {
+		if b := lists.Numbers([]byte("ahead"), l...); string(b) != "ahead"+want {
+			t.Errorf("%v: %x", l, b)
+		}
+	}
+	room := append(make([]byte, 0, 64), "ahead"...)
+	first := lists.Numbers(room, 1, 2)
+	lists.Numbers(room, 3, 4)
+	if string(first) != "ahead\x01\x02" || string(room[:64]) != "ahead"+string(make([]byte, 59)) {
+		t.Errorf("%q, %q", first, room[:64])
+	}
+}
+
 func TestRead(t *testing.T) {
 	for b, want := range map[string]struct {
 		l []string
