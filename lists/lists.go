@@ -60,6 +60,16 @@ func Rise[T any](l []T, order func(a, b T) int) bool {
 	return true
 }
 
+// Insert answers l in new memory, with x ahead of the first one that is above
+// it, or behind all.
+func Insert[T any](l []T, x T, above func(T) bool) []T {
+	at := slices.IndexFunc(l, above)
+	if at < 0 {
+		at = len(l)
+	}
+	return slices.Concat(l[:at], []T{x}, l[at:])
+}
+
 // Within tells whether each of the numbers is 0 to most.
 func Within(most int, l ...int) bool {
 	for _, n := range l {
@@ -68,4 +78,18 @@ func Within(most int, l ...int) bool {
 		}
 	}
 	return true
+}
+
+// Fit tells whether the numbers together are at most most: those that leave
+// the range of an int on the way are not.
+func Fit(most int, l ...int) bool {
+	sum := 0
+	for _, n := range l {
+		next, e := nums.Add(sum, n)
+		if e != api.OK {
+			return false
+		}
+		sum = next
+	}
+	return sum <= most
 }

@@ -107,6 +107,23 @@ func TestRise(t *testing.T) {
 	}
 }
 
+func TestInsert(t *testing.T) {
+	for _, x := range []struct{ l, want []int }{
+		{nil, []int{5}}, {[]int{3}, []int{3, 5}}, {[]int{7}, []int{5, 7}}, {[]int{3, 7}, []int{3, 5, 7}},
+		{[]int{5, 7}, []int{5, 5, 7}}, {[]int{1, 2, 3}, []int{1, 2, 3, 5}}, {[]int{6, 1, 7}, []int{5, 6, 1, 7}},
+	} {
+		l := append(make([]int, 0, 9), x.l...)
+		got := lists.Insert(l, 5, func(n int) bool { return n > 5 })
+		if !slices.Equal(got, x.want) || !slices.Equal(l[:9], append(slices.Clone(x.l), make([]int, 9-len(l))...)) {
+			t.Errorf("%v: %v, %v", x.l, got, l[:9])
+		}
+		clear(l[:9])
+		if !slices.Equal(got, x.want) {
+			t.Errorf("%v is shared", x.want)
+		}
+	}
+}
+
 func TestWithin(t *testing.T) {
 	for _, l := range [][]int{nil, {0}, {5}, {0, 5, 3}} {
 		if !lists.Within(5, l...) {
@@ -117,5 +134,21 @@ func TestWithin(t *testing.T) {
 		if lists.Within(5, l...) {
 			t.Errorf("%v", l)
 		}
+	}
+}
+
+func TestFit(t *testing.T) {
+	for _, l := range [][]int{nil, {0}, {5}, {2, 3}, {3, 2, 0}, {9, -4}, {-4, 9}, {-1}, {math.MinInt}, {math.MaxInt, math.MinInt}} {
+		if !lists.Fit(5, l...) {
+			t.Errorf("%v", l)
+		}
+	}
+	for _, l := range [][]int{{6}, {3, 3}, {1, 2, 3}, {-4, 10}, {math.MaxInt}, {math.MaxInt, 1}, {math.MaxInt, math.MaxInt}, {math.MaxInt, 1, -9}, {math.MinInt, -1}} {
+		if lists.Fit(5, l...) {
+			t.Errorf("%v", l)
+		}
+	}
+	if !lists.Fit(math.MaxInt, math.MaxInt-1, 1) || lists.Fit(math.MaxInt, math.MaxInt, 1) || lists.Fit(-1) {
+		t.Error("at the limits")
 	}
 }
