@@ -1,5 +1,5 @@
-// Package own is no layer of its own, but what layers lean on that keep a state
-// of several lists: a copy of it that shares no memory with what was handed in.
+// Package own is no layer of its own, but what layers lean on that keep what has
+// several lists: a copy of it that shares no memory with what was handed in.
 package own
 
 import (
@@ -37,6 +37,13 @@ func Machine(m api.Machine) api.Machine {
 	m.Board = Board(m.Board)
 	m.Sessions = lists.Copy(m.Sessions, session)
 	return m
+}
+
+// Command is x in memory of its own.
+func Command(x api.Command) api.Command {
+	x.Caveats = slices.Clone(x.Caveats)
+	x.Pieces = slices.Clone(x.Pieces)
+	return x
 }
 
 func session(s api.Session) api.Session {

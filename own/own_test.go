@@ -22,6 +22,11 @@ func whole() api.Machine {
 	}
 }
 
+// command is one each of whose lists has something.
+func command() api.Command {
+	return api.Command{Client: 1, Seq: 2, Caveats: room(api.Caveat{Kind: 3}), Space: "a", Pieces: room(api.Piece{Size: 4})}
+}
+
 func room[T any](l ...T) []T { return append(make([]T, 0, 9), l...) }
 
 // spoil writes over all that m's lists have, and over the room behind them.
@@ -65,6 +70,8 @@ func TestApart(t *testing.T) {
 	apart(t, "a board", m.Board, own.Board(c.Board), func() { spoil(c) })
 	c = whole()
 	apart(t, "a snapshot", m.Catalog.Snaps[0], own.Snap(c.Catalog.Snaps[0]), func() { spoil(c) })
+	x, y := command(), command()
+	apart(t, "a command", x, own.Command(y), func() { clear(y.Caveats); clear(y.Pieces) })
 }
 
 func TestNone(t *testing.T) {
@@ -73,5 +80,8 @@ func TestNone(t *testing.T) {
 	}
 	if s := own.Snap(api.Snap{}); s.Pieces != nil {
 		t.Errorf("%v", s)
+	}
+	if x := own.Command(api.Command{}); x.Caveats != nil || x.Pieces != nil {
+		t.Errorf("%v", x)
 	}
 }
