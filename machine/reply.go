@@ -5,11 +5,13 @@ import (
 	"slices"
 
 	"bailey/api"
+	"bailey/bearer"
 	"bailey/lists"
 	"bailey/manifest"
 	"bailey/nums"
 	"bailey/pack"
 	"bailey/token"
+	"bailey/whole"
 )
 
 const (
@@ -28,10 +30,7 @@ func Reply(r api.Result) ([]byte, api.Errno) {
 	b := lists.Numbers(nil, r.Kind, int(r.Code), r.Num, r.Bytes, r.Time)
 	b = manifest.PutPieces(lists.Put(b, r.Names, textCode), r.Pieces)
 	b = pack.Text(lists.Put(b, r.Tickets, textCode), string(r.Data))
-	if none(r.Token) {
-		return pack.Yes(b, false), api.OK
-	}
-	return token.Put(pack.Yes(b, true), r.Token), api.OK
+	return bearer.Put(b, r.Token), api.OK
 }
 
 // reply is Reply of what the machine itself tells.
@@ -51,7 +50,7 @@ func fits(r api.Result) bool {
 		e == api.OK &&
 		len(r.Tickets) <= mostPieces && !slices.ContainsFunc(r.Tickets, beyond(ticketSize, ticketSize)) &&
 		len(r.Data) <= api.MaxPiece &&
-		(none(r.Token) || token.Check(r.Token) == api.OK)
+		bearer.Fits(r.Token)
 }
 
 // beyond tells the texts that have fewer than low bytes, or more than high,
@@ -60,25 +59,12 @@ func beyond(low, high int) func(string) bool {
 	return func(s string) bool { return !nums.Within(len(s), low, high) }
 }
 
-// none tells whether t is the zero token.
-func none(t api.Token) bool { return token.Same(t, api.Token{}) }
-
 // ReadReply answers what a client is told by b.
-func ReadReply(b []byte) (api.Result, api.Errno) {
-	r := pack.Open(b)
-	told := readResult(r)
-	if !fits(told) {
-		r.Fail(api.ErrForm)
-	}
-	if e := r.End(); e != api.OK {
-		return api.Result{}, e
-	}
-	return told, api.OK
-}
+func ReadReply(b []byte) (api.Result, api.Errno) { return whole.Read(b, readResult, fits) }
 
 // readResult reads a result's fields, each up to its limit.
 func readResult(r *pack.Reader) api.Result {
-	told := api.Result{
+	return api.Result{
 		Kind:    r.Num(lastKind),
 		Code:    api.Errno(r.Num(lastCode)),
 		Num:     r.Num(api.MaxBytes),
@@ -88,11 +74,8 @@ func readResult(r *pack.Reader) api.Result {
 		Pieces:  manifest.ReadPieces(r),
 		Tickets: lists.Read(r, mostPieces, text(ticketSize)),
 		Data:    []byte(r.Text(api.MaxPiece)),
+		Token:   bearer.Read(r),
 	}
-	if r.Yes() {
-		told.Token = token.Read(r)
-	}
-	return told
 }
 
 // text reads a text of at most most bytes.
